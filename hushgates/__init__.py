@@ -1,0 +1,1 @@
+"""Hushwork: two reckon together and neither shows."""
