@@ -1,8 +1,9 @@
-"""load, and the calls of the circuit: shape, plain, begin."""
+"""load, and the calls of the circuit: shape, plain, and those that make a maker or a taker of it."""
 
 from hushgates.circuit import GoesWrong, read_circuit
 from hushgates.maker import Maker
 from hushgates.replies import refusal, reply
+from hushgates.taker import Taker
 
 LONGEST_TEXT = 256
 
@@ -38,7 +39,12 @@ def answer_begin(state, rows):
     return reply(0, [], [])
 
 
-CIRCUIT_CALLS = {5: answer_load, 6: answer_shape, 7: answer_plain, 8: answer_begin}
+def answer_new_taker(state, rows):
+    state.taker = Taker(state.circuit, rows[0])
+    return reply(0, [], [])
+
+
+CIRCUIT_CALLS = {5: answer_load, 6: answer_shape, 7: answer_plain, 8: answer_begin, 16: answer_new_taker}
 
 
 def circuit_answer(state, number, rows):

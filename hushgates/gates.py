@@ -49,6 +49,10 @@ def is_odd(f):
     return f in ODD
 
 
+def colour(label):
+    return label & 1
+
+
 def garbled_gate(schedule, f, g, a, b, d):
     """The g-th gate garbled, a and b being the labels of 0."""
     if is_odd(f):
@@ -67,8 +71,8 @@ def garbled_odd(schedule, f, g, a, b, d):
     x = ODD[f][0]
     y = ODD[f][1]
     z = ODD[f][2]
-    p = a & 1
-    q = b & 1
+    p = colour(a)
+    q = colour(b)
     mixes_a = both_mixes(schedule, a, d, tweak_a(g))
     mixes_b = both_mixes(schedule, b, d, tweak_b(g))
     first = mixes_a[0] ^ mixes_a[1] ^ ((q ^ y) * d)
@@ -96,8 +100,8 @@ def taken_label(schedule, f, g, a, b, table):
     if not is_odd(f):
         return even_label(f, a, b, 0)
     label = mix(schedule, a, tweak_a(g)) ^ mix(schedule, b, tweak_b(g))
-    if (a & 1) == 1:
+    if colour(a) == 1:
         label = label ^ number_of(table[:16])
-    if (b & 1) == 1:
+    if colour(b) == 1:
         label = label ^ number_of(table[16:]) ^ a
     return label

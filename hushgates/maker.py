@@ -1,7 +1,13 @@
 """The maker: a garbling of a circuit, done gate by gate."""
 
 from hushgates.cipher import encrypt, schedule_of
-from hushgates.gates import TABLE_BYTES, even_label, garbled_gate, is_odd
+from hushgates.gates import TABLE_BYTES, garbled_gate
+from hushgates.walk import GateWalk
+
+# What has been told of an input.
+NEITHER_TOLD = 0
+ZERO_TOLD = 1
+ONE_TOLD = 2
 
 
 class Comparison:
@@ -12,35 +18,22 @@ class Comparison:
         self.differs = differs
 
 
-class Maker:
-    """delta is d; zeros holds the labels of 0 of the inputs and of the gates that are done."""
+class Maker(GateWalk):
+    """labels are those of 0, delta is d; inputs_told says what has been told of each input."""
 
     def __init__(self, circuit, key, seed):
         seed_schedule = schedule_of(seed)
-        self.circuit = circuit
-        self.schedule = schedule_of(key)
-        self.delta = encrypt(seed_schedule, 0) | 1
-        self.zeros = [encrypt(seed_schedule, i + 1) for i in range(circuit.inputs)]
-
-    def gates_done(self):
-        return len(self.zeros) - self.circuit.inputs
-
-    def all_done(self):
-        return self.gates_done() == len(self.circuit.gates)
-
-    def do_even_gates(self):
-        """Do the gates ahead of the first odd one that isn't done."""
-        for f, a, b in self.circuit.gates[self.gates_done():]:
-            if is_odd(f):
-                return
-            self.zeros.append(even_label(f, self.zeros[a], self.zeros[b], self.delta))
+        delta = encrypt(seed_schedule, 0) | 1
+        zeros = [encrypt(seed_schedule, i + 1) for i in range(circuit.inputs)]
+        GateWalk.__init__(self, circuit, key, zeros, delta)
+        self.inputs_told = [NEITHER_TOLD] * circuit.inputs
 
     def garbled_next(self):
         """The first gate that isn't done, garbled; it isn't done by that."""
         g = self.gates_done()
         gate = self.circuit.gates[g]
-        a = self.zeros[gate[1]]
-        b = self.zeros[gate[2]]
+        a = self.labels[gate[1]]
+        b = self.labels[gate[2]]
         return garbled_gate(self.schedule, gate[0], g, a, b, self.delta)
 
     def tell_tables(self, most):
@@ -50,7 +43,7 @@ class Maker:
         while len(tables) < most and not self.all_done():
             garbled = self.garbled_next()
             tables.append(garbled.table)
-            self.zeros.append(garbled.zero)
+            self.labels.append(garbled.zero)
             self.do_even_gates()
         return tables
 
@@ -63,7 +56,17 @@ class Maker:
             garbled = self.garbled_next()
             if garbled.table != stream[start:start + TABLE_BYTES]:
                 return Comparison(same, True)
-            self.zeros.append(garbled.zero)
+            self.labels.append(garbled.zero)
             same = same + 1
             self.do_even_gates()
         return Comparison(same, False)
+
+    def other_is_told(self, i, bit):
+        """Whether the label of the bit's opposite has been told of input i."""
+        other = ZERO_TOLD if bit == 1 else ONE_TOLD
+        return self.inputs_told[i] == other
+
+    def tell_label(self, i, bit):
+        """The label of this bit of input i, which has been told then."""
+        self.inputs_told[i] = ONE_TOLD if bit == 1 else ZERO_TOLD
+        return self.labels[i] ^ (bit * self.delta)

@@ -1,9 +1,9 @@
-"""The calls of the maker: next, match."""
+"""The calls of the maker: next, match, tell, told, done, hint, settle."""
 
-from hushgates.gates import TABLE_BYTES
+from hushgates.gates import TABLE_BYTES, colour
 from hushgates.replies import refusal, reply
-
-LONGEST_STREAM = 2048
+from hushgates.walk import LONGEST_PIECE
+from hushgates.wide import number_of, row_of
 
 
 def done_number(maker):
@@ -20,7 +20,7 @@ def answer_next(maker, numbers, rows):
 
 def answer_match(maker, numbers, rows):
     stream = rows[0]
-    if len(stream) > LONGEST_STREAM:
+    if len(stream) > LONGEST_PIECE:
         return refusal(-2)
     if len(stream) % TABLE_BYTES != 0:
         return refusal(-1)
@@ -29,7 +29,60 @@ def answer_match(maker, numbers, rows):
     return reply(number, [], [maker.gates_done(), comparison.same])
 
 
-MAKER_CALLS = {9: answer_next, 10: answer_match}
+def answer_tell(maker, numbers, rows):
+    i = numbers[0]
+    bit = numbers[1]
+    if not maker.has_input(i) or bit > 1:
+        return refusal(-3)
+    if maker.other_is_told(i, bit):
+        return refusal(-4)
+    return reply(0, row_of(maker.tell_label(i, bit)), [])
+
+
+def answer_told(maker, numbers, rows):
+    i = numbers[0]
+    if not maker.has_input(i):
+        return refusal(-3)
+    return reply(maker.inputs_told[i], [], [])
+
+
+def answer_done(maker, numbers, rows):
+    return reply(maker.gates_done(), [], [])
+
+
+def answer_hint(maker, numbers, rows):
+    j = numbers[0]
+    if not maker.has_output(j):
+        return refusal(-3)
+    if not maker.all_done():
+        return refusal(-4)
+    return reply(colour(maker.output_label(j)), [], [])
+
+
+def answer_settle(maker, numbers, rows):
+    j = numbers[0]
+    if not maker.has_output(j):
+        return refusal(-3)
+    if not maker.all_done():
+        return refusal(-4)
+    zero = maker.output_label(j)
+    label = number_of(rows[0])
+    if label == zero:
+        return reply(0, [], [])
+    if label == zero ^ maker.delta:
+        return reply(1, [], [])
+    return refusal(-5)
+
+
+MAKER_CALLS = {
+    9: answer_next,
+    10: answer_match,
+    11: answer_tell,
+    12: answer_told,
+    13: answer_done,
+    14: answer_hint,
+    15: answer_settle,
+}
 
 
 def maker_answer(maker, number, numbers, rows):

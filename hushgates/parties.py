@@ -4,6 +4,7 @@ from hushgates.circuit_calls import circuit_answer
 from hushgates.gate_calls import gate_answer
 from hushgates.maker_calls import maker_answer
 from hushgates.replies import refusal
+from hushgates.taker_calls import taker_answer
 
 # Of each call: how many numbers it has, how many rows, how many of the rows, from the first on, are sixteen.
 FORMS = {
@@ -18,11 +19,22 @@ FORMS = {
     8: (0, 2, 2),
     9: (1, 0, 0),
     10: (0, 1, 0),
+    11: (2, 0, 0),
+    12: (1, 0, 0),
+    13: (0, 0, 0),
+    14: (1, 0, 0),
+    15: (1, 1, 1),
+    16: (0, 1, 1),
+    17: (1, 1, 1),
+    18: (0, 1, 0),
+    19: (1, 0, 0),
+    20: (2, 0, 0),
 }
 
 LAST_GATE_CALL = 4
-CIRCUIT_CALL_NUMBERS = (6, 7, 8)
-MAKER_CALL_NUMBERS = (9, 10)
+CIRCUIT_CALL_NUMBERS = (6, 7, 8, 16)
+MAKER_CALL_NUMBERS = (9, 10, 11, 12, 13, 14, 15)
+TAKER_CALL_NUMBERS = (17, 18, 19, 20)
 SIXTEEN = 16
 
 
@@ -32,6 +44,7 @@ class State:
     def __init__(self):
         self.circuit = None
         self.maker = None
+        self.taker = None
 
 
 class CallReader:
@@ -83,6 +96,8 @@ def answer_of(state, number, numbers, rows):
         return gate_answer(number, numbers, rows)
     if number in MAKER_CALL_NUMBERS:
         return maker_answer(state.maker, number, numbers, rows)
+    if number in TAKER_CALL_NUMBERS:
+        return taker_answer(state.taker, number, numbers, rows)
     return circuit_answer(state, number, rows)
 
 
@@ -92,4 +107,6 @@ def is_missing(state, number):
         return state.circuit is None
     if number in MAKER_CALL_NUMBERS:
         return state.maker is None
+    if number in TAKER_CALL_NUMBERS:
+        return state.taker is None
     return False

@@ -4,6 +4,8 @@ Nothing here uses the package but answers(): the second working-out is over byte
 search, so that it shares no table and no shortcut with the program.
 """
 
+import functools
+
 from hushgates.parties import answers
 
 TOP = 18446744073709551615
@@ -60,20 +62,61 @@ def match(s):
     return [10] + row(s)
 
 
+def tell(i, of_bit):
+    return [11, i, of_bit]
+
+
+def told(i):
+    return [12, i]
+
+
+def done():
+    return [13]
+
+
+def hint(j):
+    return [14, j]
+
+
+def settle(j, l):
+    return [15, j] + row(l)
+
+
+def opening(key):
+    """open, under a name that Python has not taken."""
+    return [16] + row(key)
+
+
+def give(i, l):
+    return [17, i] + row(l)
+
+
+def feed(s):
+    return [18] + row(s)
+
+
+def label(j):
+    return [19, j]
+
+
+def bit(j, of_hint):
+    return [20, j, of_hint]
+
+
 def run(*calls):
     """The answers of the calls, each as (number, bytes, numbers)."""
     handed = [number for call in calls for number in call]
     before = list(handed)
-    told = answers(handed)
+    given = answers(handed)
     if handed != before:
         raise AssertionError("the list handed in was changed")
-    if type(told) is not list or any(type(number) is not int for number in told):
+    if type(given) is not list or any(type(number) is not int for number in given):
         raise AssertionError("not a list of whole numbers")
     replies = []
     at = 0
-    while at < len(told):
-        size = told[at]
-        replies.append(apart(told[at + 1:at + 1 + size], size))
+    while at < len(given):
+        size = given[at]
+        replies.append(apart(given[at + 1:at + 1 + size], size))
         at += 1 + size
     if len(replies) != len(calls):
         raise AssertionError(f"{len(calls)} calls, {len(replies)} answers")
@@ -84,13 +127,13 @@ def apart(answer, size):
     if len(answer) != size:
         raise AssertionError("an answer is shorter than it says")
     count = answer[1]
-    told = answer[2:2 + count]
+    values = answer[2:2 + count]
     numbers = answer[3 + count:]
-    if len(told) != count or answer[2 + count] != len(numbers):
+    if len(values) != count or answer[2 + count] != len(numbers):
         raise AssertionError(f"counts that don't fit: {answer}")
-    if any(not 0 <= byte <= 255 for byte in told):
-        raise AssertionError(f"no bytes: {told}")
-    return (answer[0], told, numbers)
+    if any(not 0 <= byte <= 255 for byte in values):
+        raise AssertionError(f"no bytes: {values}")
+    return (answer[0], values, numbers)
 
 
 def ask(*calls):
@@ -106,8 +149,8 @@ def sixteen(number):
     return list(number.to_bytes(16, "little"))
 
 
-def wide(told):
-    return int.from_bytes(bytes(told), "little")
+def wide(values):
+    return int.from_bytes(bytes(values), "little")
 
 
 def unhex(text):
@@ -153,8 +196,9 @@ BOX = [boxed(byte) for byte in range(256)]
 PRODUCTS = {factor: [times(factor, byte) for byte in range(256)] for factor in (1, 2, 3)}
 
 
+@functools.lru_cache(maxsize=64)
 def aes_keys(key):
-    words = [key[k:k + 4] for k in range(0, 16, 4)]
+    words = [list(key[k:k + 4]) for k in range(0, 16, 4)]
     constant = 1
     for k in range(4, 44):
         word = words[k - 1]
@@ -167,7 +211,7 @@ def aes_keys(key):
 
 
 def aes(key, block):
-    keys = aes_keys(list(key))
+    keys = aes_keys(tuple(key))
     state = plus(block, keys[0])
     for number in range(1, 11):
         state = [BOX[byte] for byte in state]
@@ -255,12 +299,12 @@ def pair(number):
 
 def circuit(makers, takers, gates, outputs):
     """A circuit's bytes."""
-    told = [0x48, 0x57, 0x31, 0x00] + pair(makers) + pair(takers) + pair(len(gates)) + pair(len(outputs))
+    text = [0x48, 0x57, 0x31, 0x00] + pair(makers) + pair(takers) + pair(len(gates)) + pair(len(outputs))
     for f, a, b in gates:
-        told += [f] + pair(a) + pair(b)
+        text += [f] + pair(a) + pair(b)
     for wire in outputs:
-        told += pair(wire)
-    return told
+        text += pair(wire)
+    return text
 
 
 def said_plain(inputs, gates, outputs):
@@ -275,12 +319,50 @@ def garbling(inputs, gates, key, seed):
     d = aes(seed, [0] * 16)
     d[0] |= 1
     zeros = [aes(seed, sixteen(i + 1)) for i in range(inputs)]
-    told = []
+    stream = []
     for g, (f, a, b) in enumerate(gates):
         if f in ODD_FUNCTIONS:
-            told.append(said_table(f, g, key, zeros[a], zeros[b], d))
+            stream.append(said_table(f, g, key, zeros[a], zeros[b], d))
         zeros.append(said_zero(f, g, key, zeros[a], zeros[b], d))
-    return d, zeros, told
+    return d, zeros, stream
+
+
+def taken(labels, gates, key, stream):
+    """The labels of all wires up to the first odd gate whose table isn't in the stream."""
+    held = list(labels)
+    used = 0
+    for g, (f, a, b) in enumerate(gates):
+        piece = [0] * 32
+        if f in ODD_FUNCTIONS:
+            piece = stream[used:used + 32]
+            used += 32
+            if len(piece) < 32:
+                break
+        held.append(said_one(f, g, key, held[a], held[b], piece))
+    return held
+
+
+def labels_of(d, zeros, bits):
+    return [plus(nought, when(of_bit, d)) for nought, of_bit in zip(zeros, bits)]
+
+
+def random_circuit(chance, most_bits=16, most_gates=32, functions=range(16)):
+    """makers, takers, gates, outputs of some circuit."""
+    makers = chance.randint(0, most_bits)
+    takers = chance.randint(0 if makers else 1, most_bits)
+    wires = makers + takers
+    gates = []
+    for _ in range(chance.randint(0, most_gates)):
+        gates.append((chance.choice(functions), chance.randrange(wires), chance.randrange(wires)))
+        wires += 1
+    outputs = [chance.randrange(wires) for _ in range(chance.randint(1, 16))]
+    return makers, takers, tuple(gates), tuple(outputs)
+
+
+def cut(chance, values, pieces):
+    """The values in so many pieces, some of which may be empty."""
+    ends = sorted(chance.randint(0, len(values)) for _ in range(pieces - 1))
+    return [values[p:q] for p, q in zip([0] + ends, ends + [len(values)])]
 
 
 def joined(rows):

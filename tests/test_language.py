@@ -131,6 +131,30 @@ class NamesTest(unittest.TestCase):
                 self.assertNotIn(word, dir(builtins), name)
                 self.assertNotIn(word, NEVER, name)
 
+    def test_locals_are_not_called_like_imports_or_classes(self):
+        for path, tree in trees():
+            drawn = [node for node in tree.body if isinstance(node, ast.ImportFrom)]
+            top = {part.asname or part.name for node in drawn for part in node.names}
+            top |= {node.name for node in tree.body if isinstance(node, ast.ClassDef)}
+            for node in ast.walk(tree):
+                if isinstance(node, ast.arg):
+                    self.assertNotIn(node.arg, top, place(path.name, node))
+                if isinstance(node, ast.Name) and isinstance(node.ctx, ast.Store):
+                    self.assertNotIn(node.id, top, place(path.name, node))
+
+    def test_classes(self):
+        own = {node.name for _, node in nodes(ast.ClassDef)}
+        errors = OWN_NAMES - {"StopIteration", "AttributeError"}
+        for name, node in nodes(ast.ClassDef):
+            self.assertLessEqual(len(node.bases), 1, place(name, node))
+            self.assertEqual((node.keywords, node.decorator_list), ([], []), place(name, node))
+            for base in node.bases:
+                self.assertIn(base.id, own | {error for error in errors if error[0].isupper()}, place(name, node))
+            defined = [part.name for part in node.body if isinstance(part, ast.FunctionDef)]
+            self.assertEqual(len(defined), len(set(defined)), place(name, node))
+            for part in node.body:
+                self.assertIsInstance(part, (ast.FunctionDef, ast.Expr), place(name, part))
+
     def test_python_s_own_names(self):
         for name, node in nodes(ast.Name):
             if node.id in dir(builtins):
